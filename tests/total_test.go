@@ -12,9 +12,9 @@ import (
 
 // The tests of this file are for promise 11.
 
-// outcome has a field for each kind of result of the functions of chapter 1.
+// outcome has a field for each kind of result of the functions.
 type outcome struct {
-	list    []int
+	lists   [][]int
 	numbers [2]int
 	text    string
 	on      bool
@@ -23,12 +23,17 @@ type outcome struct {
 
 // sameOutcome reports whether two outcomes are equal.
 func sameOutcome(a outcome, b outcome) bool {
-	return slices.Equal(a.list, b.list) && a.numbers == b.numbers && a.text == b.text && a.on == b.on && a.ok == b.ok
+	return slices.EqualFunc(a.lists, b.lists, slices.Equal) && a.numbers == b.numbers && a.text == b.text && a.on == b.on && a.ok == b.ok
 }
 
 // ofBits returns the outcome that is a vector.
 func ofBits(b impl.Bits, ok bool) outcome {
-	return outcome{list: b.Words, numbers: [2]int{b.Size}, ok: ok}
+	return outcome{lists: [][]int{b.Words}, numbers: [2]int{b.Size}, ok: ok}
+}
+
+// ofList returns the outcome that is a list.
+func ofList(list []int, ok bool) outcome {
+	return outcome{lists: [][]int{list}, ok: ok}
 }
 
 // ofNumber returns the outcome that is a number.
@@ -54,12 +59,30 @@ func callSafely(t *testing.T, what string, call func() outcome) (out outcome) {
 	return call()
 }
 
-// overwrite changes all memory that an outcome gives out.
-func overwrite(out outcome) {
-	all := out.list[:cap(out.list)]
-	for i := range all {
-		all[i] = -77
+// keepLists returns an outcome with copies of its lists.
+func keepLists(out outcome) outcome {
+	kept := slices.Clone(out.lists)
+	for i, list := range kept {
+		kept[i] = slices.Clone(list)
 	}
+	out.lists = kept
+	return out
+}
+
+// overwrite changes all memory that an outcome gives out, and reports whether each of its lists has memory of its own.
+func overwrite(out outcome) bool {
+	for i, list := range out.lists {
+		all := list[:cap(list)]
+		for k := range all {
+			all[k] = -77 - i
+		}
+	}
+	for i, list := range out.lists {
+		if slices.ContainsFunc(list[:cap(list)], func(n int) bool { return n != -77-i }) {
+			return false
+		}
+	}
+	return true
 }
 
 // checkCall makes the same call with arguments with and without spare capacity,
@@ -74,10 +97,10 @@ func checkCall(t *testing.T, what string, plain func() outcome, spared func() ou
 	if !unchanged() {
 		t.Errorf("%s changes an argument", what)
 	}
-	kept := first
-	kept.list = slices.Clone(first.list)
-	overwrite(first)
-	overwrite(second)
+	kept := keepLists(first)
+	if !overwrite(first) || !overwrite(second) {
+		t.Errorf("%s: two lists of the result share memory", what)
+	}
 	if !unchanged() {
 		t.Errorf("%s shares memory with an argument", what)
 	}
@@ -105,9 +128,11 @@ func numberLists(count int) [][3]int {
 	return lists
 }
 
-// someVectors returns valid vectors and such that are not.
+// someVectors returns valid vectors, balanced ones among them, and such that are not.
 func someVectors() []impl.Bits {
-	all := []impl.Bits{{}, pack("1"), pack("0110"), pack(mixed(16, 1)), pack(mixed(17, 2)), pack(mixed(40, 3)), pack(mixed(impl.MaxBits, 4))}
+	all := []impl.Bits{{}, pack("1"), pack("0110"), pack(mixed(16, 1)), pack(mixed(17, 2)), pack(mixed(40, 3)), pack(mixed(impl.MaxBits, 4)),
+		pack("10"), pack("110100"), pack("111000101100110010"), pack(nested(impl.MaxTree)), pack(nested(impl.MaxTree + 1)), pack(nested(impl.MaxBits / 2)),
+		pack(directoryText("1")), pack(directoryText(mixed(40, 3))), pack(directoryText(mixed(impl.MaxBits, 4)))}
 	for _, b := range badVectors() {
 		all = append(all, b)
 	}
@@ -138,6 +163,18 @@ func TestVectorCallsAreTotal(t *testing.T) {
 			text, ok := impl.BitsText(b)
 			return outcome{text: text, ok: ok}
 		}},
+		{"BuildRanked", 0, func(b impl.Bits, n [3]int) outcome { return ofRanked(impl.BuildRanked(b)) }},
+		{"DirectoryBits", 1, func(b impl.Bits, n [3]int) outcome { return ofNumber(impl.DirectoryBits(n[0])) }},
+		{"IsBalanced", 0, func(b impl.Bits, n [3]int) outcome {
+			balanced, ok := impl.IsBalanced(b)
+			return outcome{on: balanced, ok: ok}
+		}},
+		{"ExcessAt", 1, func(b impl.Bits, n [3]int) outcome { return ofNumber(impl.ExcessAt(b, n[0])) }},
+		{"CloseOf", 1, func(b impl.Bits, n [3]int) outcome { return ofNumber(impl.CloseOf(b, n[0])) }},
+		{"OpenOf", 1, func(b impl.Bits, n [3]int) outcome { return ofNumber(impl.OpenOf(b, n[0])) }},
+		{"EnclosingOf", 1, func(b impl.Bits, n [3]int) outcome { return ofNumber(impl.EnclosingOf(b, n[0])) }},
+		{"DepthOf", 1, func(b impl.Bits, n [3]int) outcome { return ofNumber(impl.DepthOf(b, n[0])) }},
+		{"ParentsOf", 0, func(b impl.Bits, n [3]int) outcome { return ofList(impl.ParentsOf(b)) }},
 	}
 	for _, c := range calls {
 		for _, b := range someVectors() {
@@ -155,16 +192,20 @@ func TestVectorCallsAreTotal(t *testing.T) {
 }
 
 func TestPairCallsAreTotal(t *testing.T) {
-	calls := map[string]func(a impl.Bits, b impl.Bits) (impl.Bits, bool){"JoinBits": impl.JoinBits, "XorBits": impl.XorBits}
+	calls := map[string]func(a impl.Bits, b impl.Bits) outcome{
+		"JoinBits":        func(a impl.Bits, b impl.Bits) outcome { return ofBits(impl.JoinBits(a, b)) },
+		"XorBits":         func(a impl.Bits, b impl.Bits) outcome { return ofBits(impl.XorBits(a, b)) },
+		"UnpackDirectory": func(a impl.Bits, b impl.Bits) outcome { return ofRanked(impl.UnpackDirectory(a, b)) },
+	}
 	for name, call := range calls {
 		for _, a := range someVectors() {
 			for _, b := range someVectors() {
 				first, unchanged := withSpare(a.Words, 1, 65535, 5, -9)
 				second, alsoUnchanged := withSpare(b.Words, 3, 70000, 2, -1)
 				checkCall(t, name+" of "+strconv.Itoa(a.Size)+" and "+strconv.Itoa(b.Size)+" bits",
-					func() outcome { return ofBits(call(a, b)) },
+					func() outcome { return call(a, b) },
 					func() outcome {
-						return ofBits(call(impl.Bits{Size: a.Size, Words: first}, impl.Bits{Size: b.Size, Words: second}))
+						return call(impl.Bits{Size: a.Size, Words: first}, impl.Bits{Size: b.Size, Words: second})
 					},
 					func() bool { return unchanged() && alsoUnchanged() })
 			}
@@ -217,8 +258,7 @@ func TestListCallsAreTotal(t *testing.T) {
 	}{
 		{"AreKeys", 0, func(list []string, n [3]int) outcome { return outcome{on: impl.AreKeys(list)} }},
 		{"LoadsOf", 3, func(list []string, n [3]int) outcome {
-			loads, ok := impl.LoadsOf(n[0], n[1], list, n[2])
-			return outcome{list: loads, ok: ok}
+			return ofList(impl.LoadsOf(n[0], n[1], list, n[2]))
 		}},
 		{"CollisionOf", 3, func(list []string, n [3]int) outcome {
 			i, k, ok := impl.CollisionOf(n[0], n[1], list, n[2])
