@@ -269,6 +269,11 @@ func growWords(words []int, size int) []int {
 	return grown
 }
 
+// equalBits reports whether two values have the same Size and Words.
+func equalBits(a Bits, b Bits) bool {
+	return a.Size == b.Size && slices.Equal(a.Words, b.Words)
+}
+
 // hasRange reports whether b is valid and has the bits from..until - 1.
 func hasRange(b Bits, from int, until int) bool {
 	return IsBits(b) && 0 <= from && from <= until && until <= b.Size
