@@ -120,3 +120,11 @@ func mustFail[T comparable](t *testing.T, what string, value T, ok bool) {
 		t.Errorf("%s: got %v, %v; it must fail with the zero value", what, value, ok)
 	}
 }
+
+// mustFailList checks that a call failed with no list.
+func mustFailList[T any](t *testing.T, what string, list []T, ok bool) {
+	t.Helper()
+	if ok || len(list) != 0 {
+		t.Errorf("%s: got %v, %v; it must fail without a list", what, list, ok)
+	}
+}

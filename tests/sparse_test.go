@@ -222,14 +222,6 @@ func mustFailSparse(t *testing.T, what string, s impl.Sparse, ok bool) {
 	}
 }
 
-// mustFailList checks that a call failed with no list.
-func mustFailList(t *testing.T, what string, list []int, ok bool) {
-	t.Helper()
-	if ok || len(list) != 0 {
-		t.Errorf("%s: got %v, %v; it must fail without a list", what, list, ok)
-	}
-}
-
 func TestWidthFor(t *testing.T) {
 	for count := range impl.MaxCount + 1 {
 		limits := []int{1, 2, 3, impl.MaxLimit - 1, impl.MaxLimit}

@@ -82,6 +82,11 @@ func overwrite(out outcome) bool {
 			return false
 		}
 	}
+	// The list of lists may be given out, too.
+	all := out.lists[:cap(out.lists)]
+	for i := range all {
+		all[i] = []int{-78}
+	}
 	return true
 }
 
