@@ -178,7 +178,7 @@ func TestBucketsOf(t *testing.T) {
 func TestBuildDisplaced(t *testing.T) {
 	built, refused, shifted, full := 0, 0, 0, 0
 	for _, keys := range keyLists() {
-		for _, seed := range []int{0, 77, impl.MaxSeed} {
+		for _, seed := range []int{0, 1, 77, impl.MaxSeed} {
 			for _, buckets := range []int{1, 2, 3, 5, 8, 13, 20, impl.MaxBuckets} {
 				for _, slots := range []int{1, 2, 3, 5, 8, 13, 20, 23, 30, 41, 47, 60, impl.MaxSlots - 1, impl.MaxSlots} {
 					want, exists := plainDisplaced(seed, keys, buckets, slots)
