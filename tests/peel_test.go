@@ -562,17 +562,9 @@ func arePlainlyPeeled(seed int, keys []string, segment int) bool {
 // checkFirstSeed checks FirstSeed against a look at each seed.
 func checkFirstSeed(t *testing.T, keys []string, segment int, from int, until int) {
 	t.Helper()
-	want := from
-	for want < until && !arePlainlyPeeled(want, keys, segment) {
-		want++
-	}
 	seed, ok := impl.FirstSeed(keys, segment, from, until)
-	what := "FirstSeed of " + strconv.Itoa(len(keys)) + " keys, " + strconv.Itoa(segment) + ", " + strconv.Itoa(from) + ", " + strconv.Itoa(until)
-	if want == until {
-		mustFail(t, what, seed, ok)
-	} else if !ok || seed != want {
-		t.Errorf("%s = %d, %v; want %d", what, seed, ok, want)
-	}
+	suits := func(n int) bool { return arePlainlyPeeled(n, keys, segment) }
+	mustBeFirst(t, "FirstSeed of "+strconv.Itoa(len(keys))+" keys, "+strconv.Itoa(segment), from, until, suits, seed, ok)
 }
 
 func TestFirstSeed(t *testing.T) {
@@ -617,9 +609,7 @@ func TestFirstSeedOfTheWidestRange(t *testing.T) {
 
 func TestFirstSeedRefuses(t *testing.T) {
 	easy := []string{"a"}
-	for _, r := range [][2]int{{-1, 0}, {-1, 1}, {-1, 99}, {1, 0}, {5, 4}, {0, 101}, {0, 10000}, {9900, 10001}, {9901, 10001}, {10000, 10001}, {10001, 10001}, {10001, 10002}, {10001, 10000},
-		{0, -1}, {math.MinInt, math.MinInt}, {math.MinInt, math.MinInt + 1}, {math.MinInt, 0}, {math.MinInt, math.MaxInt}, {math.MaxInt, math.MinInt}, {0, math.MaxInt}, {0, math.MinInt},
-		{math.MaxInt, math.MaxInt}, {math.MaxInt - 1, math.MaxInt}, {math.MaxInt, 0}, {math.MaxInt - 99, math.MinInt}} {
+	for _, r := range badSeedRanges {
 		for _, keys := range [][]string{nil, easy} {
 			seed, ok := impl.FirstSeed(keys, 5, r[0], r[1])
 			mustFail(t, "FirstSeed from "+strconv.Itoa(r[0])+" until "+strconv.Itoa(r[1]), seed, ok)
@@ -637,23 +627,12 @@ func TestFirstSeedRefuses(t *testing.T) {
 	}
 }
 
-// checkLeastSegment checks LeastSegment against a look at each segment, for each limit.
+// checkLeastSegment checks LeastSegment against a look at each segment, for each limit, and returns the least one.
 func checkLeastSegment(t *testing.T, seed int, keys []string) int {
 	t.Helper()
-	want := 1
-	for want <= impl.MaxSegment && !arePlainlyPeeled(seed, keys, want) {
-		want++
-	}
-	for most := 1; most <= impl.MaxSegment; most++ {
-		segment, ok := impl.LeastSegment(seed, keys, most)
-		what := "LeastSegment for " + strconv.Itoa(seed) + " of " + strconv.Itoa(len(keys)) + " keys up to " + strconv.Itoa(most)
-		if want > most {
-			mustFail(t, what, segment, ok)
-		} else if !ok || segment != want {
-			t.Errorf("%s = %d, %v; want %d", what, segment, ok, want)
-		}
-	}
-	return want
+	return mustBeLeast(t, "LeastSegment for "+strconv.Itoa(seed)+" of "+strconv.Itoa(len(keys))+" keys", impl.MaxSegment,
+		func(n int) bool { return arePlainlyPeeled(seed, keys, n) },
+		func(most int) (int, bool) { return impl.LeastSegment(seed, keys, most) })
 }
 
 func TestLeastSegment(t *testing.T) {

@@ -3,6 +3,7 @@ package tests
 import (
 	"math"
 	"slices"
+	"strconv"
 	"strings"
 	"testing"
 
@@ -127,4 +128,38 @@ func mustFailList[T any](t *testing.T, what string, list []T, ok bool) {
 	if ok || len(list) != 0 {
 		t.Errorf("%s: got %v, %v; it must fail without a list", what, list, ok)
 	}
+}
+
+// badSeedRanges are the first numbers of ranges in which no seed is looked for, and the numbers behind them.
+var badSeedRanges = [][2]int{{-1, 0}, {-1, 1}, {-1, 99}, {1, 0}, {5, 4}, {0, 101}, {0, 10000}, {9900, 10001}, {9901, 10001}, {10000, 10001}, {10001, 10001}, {10001, 10002}, {10001, 10000},
+	{0, -1}, {math.MinInt, math.MinInt}, {math.MinInt, math.MinInt + 1}, {math.MinInt, 0}, {math.MinInt, math.MaxInt}, {math.MaxInt, math.MinInt}, {0, math.MaxInt}, {0, math.MinInt},
+	{math.MaxInt, math.MaxInt}, {math.MaxInt - 1, math.MaxInt}, {math.MaxInt, 0}, {math.MaxInt - 99, math.MinInt}}
+
+// mustBeFirst checks that a call told the first number in from..until - 1 that suits, or failed if there is none.
+func mustBeFirst(t *testing.T, what string, from int, until int, suits func(n int) bool, n int, ok bool) {
+	t.Helper()
+	want := from
+	for want < until && !suits(want) {
+		want++
+	}
+	what += ", from " + strconv.Itoa(from) + " until " + strconv.Itoa(until)
+	if want == until {
+		mustFail(t, what, n, ok)
+	} else if !ok || n != want {
+		t.Errorf("%s = %d, %v; want %d", what, n, ok, want)
+	}
+}
+
+// mustBeLeast checks that a call tells, for each limit up to the greatest one, the least number in 1..limit that suits, or fails if there is none; it returns that number, or one beyond the greatest limit.
+func mustBeLeast(t *testing.T, what string, greatest int, suits func(n int) bool, call func(most int) (int, bool)) int {
+	t.Helper()
+	least := 1
+	for least <= greatest && !suits(least) {
+		least++
+	}
+	for most := 1; most <= greatest; most++ {
+		told, ok := call(most)
+		mustBeFirst(t, what, 1, most+1, func(n int) bool { return n == least }, told, ok)
+	}
+	return least
 }

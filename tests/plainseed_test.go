@@ -13,17 +13,9 @@ import (
 // checkPlainSeed checks PlainSeed against a look at each seed.
 func checkPlainSeed(t *testing.T, keys []string, slots int, from int, until int) {
 	t.Helper()
-	want := from
-	for want < until && haveEqual(plainPlaces(want, 0, keys, slots)) {
-		want++
-	}
 	seed, ok := impl.PlainSeed(keys, slots, from, until)
-	what := "PlainSeed of " + strconv.Itoa(len(keys)) + " keys, " + strconv.Itoa(slots) + ", " + strconv.Itoa(from) + ", " + strconv.Itoa(until)
-	if want == until {
-		mustFail(t, what, seed, ok)
-	} else if !ok || seed != want {
-		t.Errorf("%s = %d, %v; want %d", what, seed, ok, want)
-	}
+	suits := func(n int) bool { return !haveEqual(plainPlaces(n, 0, keys, slots)) }
+	mustBeFirst(t, "PlainSeed of "+strconv.Itoa(len(keys))+" keys, "+strconv.Itoa(slots), from, until, suits, seed, ok)
 }
 
 func TestPlainSeed(t *testing.T) {
@@ -123,9 +115,7 @@ func TestPlainSeedOfFewKeys(t *testing.T) {
 }
 
 func TestPlainSeedRefuses(t *testing.T) {
-	for _, r := range [][2]int{{-1, 0}, {-1, 1}, {-1, 99}, {1, 0}, {5, 4}, {0, 101}, {0, 10000}, {9900, 10001}, {9901, 10001}, {10000, 10001}, {10001, 10001}, {10001, 10002}, {10001, 10000},
-		{0, -1}, {math.MinInt, math.MinInt}, {math.MinInt, math.MinInt + 1}, {math.MinInt, 0}, {math.MinInt, math.MaxInt}, {math.MaxInt, math.MinInt}, {0, math.MaxInt}, {0, math.MinInt},
-		{math.MaxInt, math.MaxInt}, {math.MaxInt - 1, math.MaxInt}, {math.MaxInt, 0}, {math.MaxInt - 99, math.MinInt}} {
+	for _, r := range badSeedRanges {
 		for _, keys := range [][]string{nil, {"a"}} {
 			seed, ok := impl.PlainSeed(keys, 5, r[0], r[1])
 			mustFail(t, "PlainSeed from "+strconv.Itoa(r[0])+" until "+strconv.Itoa(r[1]), seed, ok)

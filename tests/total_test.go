@@ -15,6 +15,7 @@ import (
 // outcome has a field for each kind of result of the functions.
 type outcome struct {
 	lists   [][]int
+	words   [][]string
 	numbers [2]int
 	text    string
 	on      bool
@@ -23,7 +24,7 @@ type outcome struct {
 
 // sameOutcome reports whether two outcomes are equal.
 func sameOutcome(a outcome, b outcome) bool {
-	return slices.EqualFunc(a.lists, b.lists, slices.Equal) && a.numbers == b.numbers && a.text == b.text && a.on == b.on && a.ok == b.ok
+	return slices.EqualFunc(a.lists, b.lists, slices.Equal) && slices.EqualFunc(a.words, b.words, slices.Equal) && a.numbers == b.numbers && a.text == b.text && a.on == b.on && a.ok == b.ok
 }
 
 // ofBits returns the outcome that is a vector.
@@ -59,33 +60,45 @@ func callSafely(t *testing.T, what string, call func() outcome) (out outcome) {
 	return call()
 }
 
+// cloneLists returns copies of lists.
+func cloneLists[T any](lists [][]T) [][]T {
+	clones := slices.Clone(lists)
+	for i, list := range clones {
+		clones[i] = slices.Clone(list)
+	}
+	return clones
+}
+
 // keepLists returns an outcome with copies of its lists.
 func keepLists(out outcome) outcome {
-	kept := slices.Clone(out.lists)
-	for i, list := range kept {
-		kept[i] = slices.Clone(list)
-	}
-	out.lists = kept
+	out.lists, out.words = cloneLists(out.lists), cloneLists(out.words)
 	return out
 }
 
 // overwrite changes all memory that an outcome gives out, and reports whether each of its lists has memory of its own.
 func overwrite(out outcome) bool {
-	for i, list := range out.lists {
+	numbers := overwriteLists(out.lists, func(i int) int { return -77 - i })
+	words := overwriteLists(out.words, func(i int) string { return "overwritten " + strconv.Itoa(i) })
+	return numbers && words
+}
+
+// overwriteLists changes all memory of lists to the mark of their index, and reports whether each of them has memory of its own.
+func overwriteLists[T comparable](lists [][]T, mark func(i int) T) bool {
+	for i, list := range lists {
 		all := list[:cap(list)]
 		for k := range all {
-			all[k] = -77 - i
+			all[k] = mark(i)
 		}
 	}
-	for i, list := range out.lists {
-		if slices.ContainsFunc(list[:cap(list)], func(n int) bool { return n != -77-i }) {
+	for i, list := range lists {
+		if slices.ContainsFunc(list[:cap(list)], func(value T) bool { return value != mark(i) }) {
 			return false
 		}
 	}
 	// The list of lists may be given out, too.
-	all := out.lists[:cap(out.lists)]
+	all := lists[:cap(lists)]
 	for i := range all {
-		all[i] = []int{-78}
+		all[i] = []T{mark(-1)}
 	}
 	return true
 }
